@@ -211,7 +211,7 @@ func carry(t *testing.T, p *api.Provider, c *api.Consumer) {
 	}
 }
 
-// P8.1 to P8.7: examples 1 to 3 of the document, with the provider on the other side.
+// P8.1 to P8.6: examples 1 to 3 of the document, with the provider on the other side.
 func TestWithAProvider(t *testing.T) {
 	p, _ := provider.Delegate(provider.New(), 0, 0, 700)
 	p, _ = provider.Delegate(p, 1, 3, 900)
